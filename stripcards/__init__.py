@@ -1,0 +1,1 @@
+"""A detector's cards, read bit by bit: see stripcards.cards.answers."""
